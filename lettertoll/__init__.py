@@ -1,0 +1,1 @@
+"""Lettertoll: cheapest words of priced letters."""
