@@ -26,6 +26,30 @@ PROMISED = {
         "BadLetter": ["at"],
         "BadRow": ["at"],
     },
+    "lettertoll.trees": {
+        "tree_of": ["code", "letters"],
+        "code_of": ["tree"],
+        "spelling_of": ["code"],
+        "code_by": ["letters", "things", "spelling"],
+    },
+    "lettertoll.reading": {
+        "written": ["code", "things"],
+        "read": ["code", "letters"],
+        "Reader": ["code"],
+    },
+    "lettertoll.kept": {
+        "least_floors": ["prices", "weights"],
+        "cheapest_kept": ["prices", "weights"],
+    },
+    "lettertoll.keptexam": {
+        "bound_by": ["prices", "weights", "floors", "first", "end"],
+        "first_lie": ["prices", "weights", "floors"],
+        "shows_kept": ["prices", "weights", "code", "floors"],
+    },
+}
+
+METHODS = {
+    ("lettertoll.reading", "Reader"): {"take": ["letter"], "told": [], "rest": [], "back": []},
 }
 
 
@@ -35,6 +59,13 @@ class TestInterface(unittest.TestCase):
             for name, arguments in names.items():
                 promised = getattr(importlib.import_module(module), name)
                 self.assertEqual(list(inspect.signature(promised).parameters), arguments, (module, name))
+
+    def test_methods_and_their_arguments(self):
+        for (module, name), methods in METHODS.items():
+            kind = getattr(importlib.import_module(module), name)
+            for method, arguments in methods.items():
+                promised = list(inspect.signature(getattr(kind, method)).parameters)
+                self.assertEqual(promised, ["self"] + arguments, (module, name, method))
 
 
 if __name__ == "__main__":

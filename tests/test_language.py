@@ -112,5 +112,179 @@ class TestLanguage(unittest.TestCase):
                     self.assertNotIn(bound, dir(builtins), name)
 
 
+METHODS_OF_PYTHONS_VALUES = (
+    "append clear copy count endswith extend find get index insert isalnum isalpha isdigit islower isspace isupper "
+    "items join keys ljust lower lstrip partition pop remove replace reverse rfind rjust rpartition rsplit rstrip "
+    "setdefault split splitlines startswith strip update upper values zfill bit_length"
+).split()
+
+WALKED_AT_ONCE = ("zip", "enumerate", "reversed", "range")
+WALKERS = ("list", "tuple", "dict", "sorted", "sum", "any", "all", "enumerate", "zip", "min", "max")
+KEYWORDS = {
+    "sorted": ("key", "reverse"), "min": ("key", "default"), "max": ("key", "default"),
+    "sum": ("start",), "enumerate": ("start",), "zip": ("strict",),
+}
+TAKEN_NAMES = {name for value in ("", 0, [], {}, set(), b"", ()) for name in dir(value)}
+
+
+def called_name(node):
+    return node.func.id if isinstance(node, ast.Call) and isinstance(node.func, ast.Name) else None
+
+
+def parents_of(tree):
+    return {child: node for node in ast.walk(tree) for child in ast.iter_child_nodes(node)}
+
+
+def imported_names(tree):
+    return {part.name for node in tree.body if isinstance(node, ast.ImportFrom) for part in node.names}
+
+
+def defined_names(tree):
+    kinds = (ast.FunctionDef, ast.ClassDef)
+    return [node.name for node in tree.body if isinstance(node, kinds)] + [
+        target.id for node in tree.body if isinstance(node, ast.Assign) for target in node.targets
+    ]
+
+
+def classes():
+    return [node for name, tree in trees() for node in tree.body if isinstance(node, ast.ClassDef)]
+
+
+def methods_of(node):
+    return [part.name for part in node.body if isinstance(part, ast.FunctionDef)]
+
+
+class TestNarrowerRules(unittest.TestCase):
+    def test_a_module_is_docstring_imports_values_functions_and_classes(self):
+        for name, tree in trees():
+            self.assertIsNotNone(ast.get_docstring(tree), name)
+            for node in tree.body[1:]:
+                self.assertIsInstance(node, (ast.ImportFrom, ast.FunctionDef, ast.ClassDef, ast.Assign), name)
+            self.assertEqual(len(set(defined_names(tree))), len(defined_names(tree)), name)
+
+    def test_only_calls_stand_by_themselves(self):
+        for name, tree in trees():
+            for node in ast.walk(tree):
+                if isinstance(node, ast.Expr) and node is not tree.body[0]:
+                    self.assertIsInstance(node.value, ast.Call, (name, node.lineno))
+
+    def test_no_local_is_called_like_a_class_or_an_import(self):
+        for name, tree in trees():
+            taken = imported_names(tree) | {node.name for node in tree.body if isinstance(node, ast.ClassDef)}
+            for node in ast.walk(tree):
+                if isinstance(node, ast.arg):
+                    self.assertNotIn(node.arg, taken, (name, node.lineno))
+                elif isinstance(node, ast.Name) and isinstance(node.ctx, ast.Store):
+                    self.assertNotIn(node.id, taken, (name, node.lineno))
+
+    def test_names_are_drawn_from_where_they_are_defined_and_files_not_from_one_another(self):
+        drawn, defined = {}, {}
+        for name, tree in trees():
+            module = "lettertoll." + name[:-3]
+            defined[module] = defined_names(tree)
+            drawn[module] = [node for node in tree.body if isinstance(node, ast.ImportFrom)]
+        for module, rows in drawn.items():
+            for row in rows:
+                for part in row.names:
+                    self.assertIn(part.name, defined[row.module], module)
+                    self.assertIsNone(part.asname, module)
+
+        def all_behind(module, seen):
+            for row in drawn[module]:
+                if row.module not in seen:
+                    seen.add(row.module)
+                    all_behind(row.module, seen)
+            return seen
+
+        for module in drawn:
+            self.assertNotIn(module, all_behind(module, set()))
+
+    def test_imports_are_used(self):
+        for name, tree in trees():
+            used = {node.id for node in ast.walk(tree) if isinstance(node, ast.Name)}
+            self.assertEqual(imported_names(tree) - used, set(), name)
+
+    def test_is_stands_beside_none_true_and_false_alone(self):
+        for name, tree in trees():
+            for node in ast.walk(tree):
+                if isinstance(node, ast.Compare) and any(isinstance(op, (ast.Is, ast.IsNot)) for op in node.ops):
+                    for side in node.comparators:
+                        self.assertTrue(isinstance(side, ast.Constant) and side.value in (None, True, False), name)
+
+    def test_keywords_at_pythons_own_names(self):
+        for name, tree in trees():
+            for node in ast.walk(tree):
+                if isinstance(node, ast.Call) and called_name(node) in OWN_NAMES_OF_PYTHON:
+                    for keyword in node.keywords:
+                        self.assertIn(keyword.arg, KEYWORDS.get(called_name(node), ()), (name, node.lineno))
+
+    def test_what_is_walked_is_walked_at_once(self):
+        for name, tree in trees():
+            parents = parents_of(tree)
+            for node in ast.walk(tree):
+                views = isinstance(node, ast.Call) and isinstance(node.func, ast.Attribute)
+                views = views and node.func.attr in ("items", "keys", "values")
+                if views or called_name(node) in WALKED_AT_ONCE:
+                    parent = parents[node]
+                    walked = isinstance(parent, (ast.For, ast.comprehension)) and parent.iter is node
+                    self.assertTrue(walked or called_name(parent) in WALKERS, (name, node.lineno))
+
+    def test_sets_are_not_kept(self):
+        for name, tree in trees():
+            parents = parents_of(tree)
+            for node in ast.walk(tree):
+                self.assertNotIsInstance(node, ast.Set, name)
+                if called_name(node) in ("set", "frozenset"):
+                    parent = parents[node]
+                    held = isinstance(parent, ast.Compare) or called_name(parent) in ("sorted", "len")
+                    self.assertTrue(held, (name, node.lineno))
+
+    def test_methods_are_those_told_and_own_ones(self):
+        own = {method for node in classes() for method in methods_of(node)}
+        for name, tree in trees():
+            for node in ast.walk(tree):
+                if isinstance(node, ast.Call) and isinstance(node.func, ast.Attribute):
+                    self.assertIn(node.func.attr, own.union(METHODS_OF_PYTHONS_VALUES), (name, node.lineno))
+
+    def test_own_methods_and_values_have_names_of_their_own(self):
+        methods = {method for node in classes() for method in methods_of(node)} - set(METHODS_WITH_UNDERSCORES)
+        values = {
+            part.attr
+            for node in classes()
+            for part in ast.walk(node)
+            if isinstance(part, ast.Attribute) and isinstance(part.ctx, ast.Store)
+        }
+        self.assertEqual(methods & values, set())
+        self.assertEqual((methods | values) & TAKEN_NAMES, set())
+        for node in classes():
+            self.assertEqual(len(set(methods_of(node))), len(methods_of(node)), node.name)
+
+    def test_numbers_and_texts(self):
+        for name, tree in trees():
+            for node in ast.walk(tree):
+                if isinstance(node, ast.BinOp) and isinstance(node.op, ast.Pow):
+                    self.assertIsInstance(node.right, ast.Constant, (name, node.lineno))
+                    self.assertLessEqual(node.right.value, 64, (name, node.lineno))
+                if isinstance(node, ast.Constant) and isinstance(node.value, str):
+                    self.assertNotIn("%", node.value, (name, node.lineno))
+                if isinstance(node, ast.JoinedStr):
+                    for part in node.values:
+                        plain = isinstance(part, ast.Constant) or isinstance(part.value, ast.Name)
+                        self.assertTrue(plain, (name, node.lineno))
+
+    def test_comprehensions_and_assignments(self):
+        for name, tree in trees():
+            for node in ast.walk(tree):
+                if isinstance(node, ast.ListComp):
+                    self.assertEqual(len(node.generators), 1, (name, node.lineno))
+                    self.assertLessEqual(len(node.generators[0].ifs), 1, (name, node.lineno))
+                if isinstance(node, ast.Assign):
+                    self.assertNotIsInstance(node.targets[0], (ast.Tuple, ast.List), (name, node.lineno))
+                if isinstance(node, ast.Raise):
+                    self.assertIsInstance(node.exc, ast.Call, (name, node.lineno))
+                if isinstance(node, ast.ExceptHandler):
+                    self.assertIsNotNone(node.type, (name, node.lineno))
+
+
 if __name__ == "__main__":
     unittest.main()
