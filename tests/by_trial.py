@@ -151,3 +151,24 @@ def some_books(seed, many, letters, things, most):
         weights = tuple(chance.randint(1, most) for thing in range(chance.randint(*things)))
         found.append((prices, weights))
     return found
+
+
+def bound_on_step(prices, weights, stairs, step, first, end):
+    """The bound of stairs, None among them."""
+    if end - first == 1:
+        return 0
+    if step == 0:
+        return None
+    beneath = stairs[step - 1]
+    return min((
+        sum_of_parts(prices, weights, beneath, parts)
+        for parts in partings(first, end, len(prices))
+        if all(beneath[start][stop - start - 1] is not None for start, stop, letter in parts)
+    ), default=None)
+
+
+def cheapest_codes(prices, weights):
+    """All cheapest kept codes, in the order of their spellings."""
+    codes = lean_codes(len(prices), len(weights))
+    least = min(cost_of(prices, weights, code) for code in codes)
+    return sorted((code for code in codes if cost_of(prices, weights, code) == least), key=spelling_by_words)

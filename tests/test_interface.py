@@ -46,6 +46,20 @@ PROMISED = {
         "first_lie": ["prices", "weights", "floors"],
         "shows_kept": ["prices", "weights", "code", "floors"],
     },
+    "lettertoll.bounded": {
+        "least_top": ["letters", "things"],
+        "least_stairs": ["prices", "weights", "top"],
+        "cheapest_bounded": ["prices", "weights", "top"],
+    },
+    "lettertoll.boundexam": {
+        "step_lie": ["prices", "weights", "top", "stairs"],
+        "shows_bounded": ["prices", "weights", "top", "code", "stairs"],
+        "shows_none": ["prices", "weights", "top", "stairs"],
+    },
+    "lettertoll.counted": {
+        "many_cheapest": ["prices", "weights"],
+        "many_with": ["prices", "weights", "thing", "word"],
+    },
 }
 
 METHODS = {
