@@ -172,3 +172,16 @@ def cheapest_codes(prices, weights):
     codes = lean_codes(len(prices), len(weights))
     least = min(cost_of(prices, weights, code) for code in codes)
     return sorted((code for code in codes if cost_of(prices, weights, code) == least), key=spelling_by_words)
+
+
+# Prices and weights for free order.
+FREE_BOOKS = some_books(111, 8, (2, 6), (1, 6), 9) + some_books(112, 6, (2, 6), (1, 6), MOST) + [
+    ((1, 1), (1,)), ((1, 1), (1,) * 7), ((3, 1), (1, 2, 3, 4, 5, 6, 7)), ((1,) * 6, (1,) * 6), ((MOST,) * 6, (MOST,) * 6),
+    ((2, 2, 5), (4, 4, 1, 1)), ((MOST, 1), (MOST, 1, MOST, 1, 1, 1, 1)), ((7, 3, 5, 1, 9, 2), (6, 5, 4, 3, 2, 1)),
+]
+
+# More things than free order is for, and as many as it is for.
+TOO_MANY = [((1,) * letters, (1,) * things) for letters in range(3, 7) for things in (7, 8, 24)]
+TOO_MANY += [((1, 2), (1,) * things) for things in (8, 9, 24)]
+
+AS_MANY = [((1,) * letters, (1,) * 6) for letters in range(2, 7)] + [((1, 2), (1,) * 7)]

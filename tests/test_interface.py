@@ -60,6 +60,32 @@ PROMISED = {
         "many_cheapest": ["prices", "weights"],
         "many_with": ["prices", "weights", "thing", "word"],
     },
+    "lettertoll.numbered": {
+        "numbered": ["prices", "weights", "number"],
+        "number_of": ["prices", "weights", "code"],
+        "sure_words": ["prices", "weights"],
+    },
+    "lettertoll.moved": {
+        "price_moved": ["prices", "letter", "number"],
+        "weight_moved": ["weights", "thing", "number"],
+        "price_share": ["prices", "weights", "code", "letter"],
+        "weight_share": ["prices", "weights", "code", "thing"],
+        "price_stretch": ["prices", "weights", "code", "letter"],
+        "weight_stretch": ["prices", "weights", "code", "thing"],
+        "price_beyond": ["prices", "weights", "code", "letter"],
+        "weight_beyond": ["prices", "weights", "code", "thing"],
+    },
+    "lettertoll.frontiers": {
+        "moves": ["prices", "weights", "frontier"],
+        "frontier_floors": ["prices", "weights"],
+        "frontiers_hold": ["prices", "weights", "told"],
+    },
+    "lettertoll.free": {
+        "code_of_moves": ["prices", "weights", "row"],
+        "free_moves": ["prices", "weights"],
+        "free_code": ["prices", "weights"],
+        "free_shown": ["prices", "weights", "code", "told"],
+    },
 }
 
 METHODS = {
