@@ -86,10 +86,30 @@ PROMISED = {
         "free_code": ["prices", "weights"],
         "free_shown": ["prices", "weights", "code", "told"],
     },
+    "lettertoll.knots": {
+        "cheapest_knots": ["prices", "many"],
+        "ends_of": ["prices", "many"],
+    },
+    "lettertoll.like": {
+        "like_sums": ["prices", "things"],
+        "like_code": ["prices", "things"],
+    },
+    "lettertoll.texts": {
+        "book_text": ["signs", "prices", "names", "weights"],
+        "read_book": ["text"],
+        "word_text": ["signs", "word"],
+        "read_word": ["signs", "text"],
+    },
+    "lettertoll.desk": {
+        "Desk": ["text"],
+    },
 }
 
 METHODS = {
     ("lettertoll.reading", "Reader"): {"take": ["letter"], "told": [], "rest": [], "back": []},
+    ("lettertoll.desk", "Desk"): {
+        "book": [], "put_price": ["sign", "price"], "put_weight": ["name", "weight"], "back": [], "answer": ["question"],
+    },
 }
 
 
