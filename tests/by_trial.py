@@ -87,6 +87,19 @@ def spelling_by_words(code):
     ]
 
 
+def read_by_words(code, letters):
+    """The things and the rest, the letters read as [3.1] tells; None where one begins no word."""
+    things, rest = [], ()
+    for letter in letters:
+        rest += (letter,)
+        if rest in code:
+            things.append(code.index(rest))
+            rest = ()
+        elif not any(word[:len(rest)] == rest for word in code):
+            return None
+    return (things, rest)
+
+
 def partings(first, end, letters):
     """All tuples of two parts or more that part a stretch."""
     found = []

@@ -13,7 +13,7 @@ from lettertoll.moved import price_stretch, weight_stretch
 from lettertoll.numbered import numbered, sure_words
 from lettertoll.reading import written
 from lettertoll.texts import book_text, read_book, word_text
-from tests.by_trial import MOST, cheapest_codes, some_books
+from tests.by_trial import MOST, cheapest_codes, read_by_words, some_books
 
 TEXT = "letter a 1\nletter b 3\nthing x 5\nthing y 2\nthing z 2\n"
 LIKE = "letter a 1\nletter b 1\nthing x 1\nthing y 1\nthing z 1\n"
@@ -29,19 +29,6 @@ NO_AMOUNTS = (0, -1, -MOST, MOST + 1, MOST * MOST)
 def some_texts(seed, many, letters, things, most):
     for prices, weights in some_books(seed, many, letters, things, most):
         yield book_text(SIGNS[:len(prices)], prices, NAMES[:len(weights)], weights)
-
-
-def read_by_words(code, word):
-    """The things and the rest, or None where a letter begins no word."""
-    things, rest = [], ()
-    for letter in word:
-        rest += (letter,)
-        if rest in code:
-            things.append(code.index(rest))
-            rest = ()
-        elif not any(other[:len(rest)] == rest for other in code):
-            return None
-    return (things, rest)
 
 
 class TestBook(unittest.TestCase):

@@ -6,7 +6,7 @@ import unittest
 
 from lettertoll.errors import BadLetter, Clash, NoReading, NothingLeft, NoThing
 from lettertoll.reading import Reader, read, written
-from tests.by_trial import MOST
+from tests.by_trial import MOST, read_by_words
 
 COMB = tuple((1,) * many + (0,) for many in range(23)) + ((1,) * 23,)
 LONG = tuple((1,) * many + (0,) + (1,) * (59 - many) for many in range(24))
@@ -21,19 +21,6 @@ CODES = (
     ((1, 0, 1),),
     ((-5, 3), (10 ** 40,), (-5, -5)),
 )
-
-
-def rest_by_words(code, letters):
-    """The things and the rest, the letters read as [3.1] tells; None where one begins no word."""
-    things, rest = [], ()
-    for letter in letters:
-        rest += (letter,)
-        if rest in code:
-            things.append(code.index(rest))
-            rest = ()
-        elif not any(word[:len(rest)] == rest for word in code):
-            return None
-    return (things, rest)
 
 
 def rows_of(code):
@@ -106,7 +93,7 @@ class TestRead(unittest.TestCase):
                 self.assertEqual(read(code, letters), (row, ()))
                 for cut in range(len(letters) + 1):
                     things, rest = read(code, letters[:cut])
-                    self.assertEqual((things, rest), rest_by_words(code, letters[:cut]))
+                    self.assertEqual((things, rest), read_by_words(code, letters[:cut]))
                     self.assertEqual(things, row[:len(things)])
                     behind, last = read(code, rest + letters[cut:])
                     self.assertEqual((things + behind, last), (row, ()))
@@ -115,11 +102,11 @@ class TestRead(unittest.TestCase):
         for code in CODES[:7]:
             for size in range(7):
                 for letters in itertools.product((0, 1, 2), repeat=size):
-                    asked = rest_by_words(code, letters)
+                    asked = read_by_words(code, letters)
                     if asked is not None:
                         self.assertEqual(read(code, letters), asked)
                         continue
-                    at = max(cut for cut in range(size + 1) if rest_by_words(code, letters[:cut]) is not None)
+                    at = max(cut for cut in range(size + 1) if read_by_words(code, letters[:cut]) is not None)
                     with self.assertRaises(BadLetter) as caught:
                         read(code, letters)
                     self.assertEqual(caught.exception.at, at)
@@ -187,7 +174,7 @@ class TestReader(unittest.TestCase):
                 self.assertEqual((reader.told(), reader.rest()), ([], ()))
                 for letter in written(code, row):
                     taken += (letter,)
-                    asked = rest_by_words(code, taken)
+                    asked = read_by_words(code, taken)
                     told = reader.take(letter)
                     self.assertEqual(told, asked[0][-1] if asked[1] == () else None)
                     self.assertEqual((reader.told(), reader.rest()), asked)
@@ -249,7 +236,7 @@ class TestReader(unittest.TestCase):
                         self.assertRaises(NothingLeft, reader.back)
                 else:
                     letter = chance.choice(numbers)
-                    asked = rest_by_words(code, taken + (letter,))
+                    asked = read_by_words(code, taken + (letter,))
                     if asked is None:
                         with self.assertRaises(BadLetter) as caught:
                             reader.take(letter)
@@ -257,7 +244,7 @@ class TestReader(unittest.TestCase):
                     else:
                         taken += (letter,)
                         self.assertEqual(reader.take(letter), asked[0][-1] if asked[1] == () else None)
-                self.assertEqual((reader.told(), reader.rest()), rest_by_words(code, taken))
+                self.assertEqual((reader.told(), reader.rest()), read_by_words(code, taken))
 
     def test_back_over_whole_words(self):
         reader = Reader(((0,), (1, 0), (1, 1)))
